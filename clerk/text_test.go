@@ -202,7 +202,7 @@ func TestReadOfLongTexts(t *testing.T) {
 
 // changes are all texts that one byte less, more or other makes of a text; other bytes are few, or all.
 func changes(text string, all bool, visit func(other string)) {
-	bytes := "\n d9 0e"
+	bytes := "\n d90e"
 	if all {
 		bytes = ""
 		for c := range 256 {
